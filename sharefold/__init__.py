@@ -1,0 +1,1 @@
+"""Sharefold: terms worked out by sharing, and the families of steps."""

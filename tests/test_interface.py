@@ -1,0 +1,77 @@
+"""The names of the interface, where they stand, and the conventions of all of them: [2]."""
+
+import ast
+import importlib
+import inspect
+import os
+import unittest
+
+from sharefold.errors import ShareError
+from tests.samples import A, B, I, ODD_VALUES, T, call
+
+# Each function of the interface with its parameters, module by module.
+INTERFACE = {
+    "terms": "is_term(value) size_of(term) height_of(term) kinds_of(term) part_at(term,node) above(term,node) "
+             "fun_of(term,node) names_of(term,node)",
+    "steps": "redexes(term) is_normal(term) leftmost(term) step(term,node) origins(term,node)",
+    "ways": "is_way(term,value) walk(term,way) terms_along(term,way) leftmost_way(term,most) normal_form(term,most)",
+    "termtexts": "read_term(text) first_refused(text) signs_on(text) write_term(term)",
+    "places": "places_of(term) node_at(term,place) redex_marks(term)",
+    "waytexts": "write_row(row) read_row(text) write_way(term,way) read_way(text)",
+}
+
+
+def functions():
+    for module, rows in INTERFACE.items():
+        for row in rows.split():
+            name, parameters = row[:-1].split("(")
+            yield module, name, parameters.split(",")
+
+
+def function_named(module, name):
+    return getattr(importlib.import_module("sharefold." + module), name)
+
+
+class InterfaceTest(unittest.TestCase):
+
+    def test_functions_are_defined_in_their_files(self):
+        for module, name, parameters in functions():
+            path = os.path.abspath(importlib.import_module("sharefold." + module).__file__)
+            with open(path, encoding="utf-8") as stream:
+                rows = ast.parse(stream.read()).body
+            found = [row for row in rows if isinstance(row, ast.FunctionDef) and row.name == name]
+            self.assertEqual(len(found), 1, name)
+            self.assertEqual(list(inspect.signature(function_named(module, name)).parameters), parameters, name)
+
+    def test_any_values_meet_errors_of_this_package_alone(self):
+        values = ODD_VALUES + [T, I, B, "A B", "\\x.x", "[1,2]", "A\n", (0, 5), 3]
+        for module, name, parameters in functions():
+            function = function_named(module, name)
+            for value in values:
+                for other in [value, T, 0, 1, (0,), "A"]:
+                    for last in [0, other]:
+                        arguments = [other, value, last, value, value][:len(parameters)]
+                        try:
+                            function(*arguments)
+                        except ShareError:
+                            continue
+
+    def test_results_are_the_same_each_time(self):
+        samples = {"term": call(I, T), "node": 0, "value": (0, 3), "way": (3, 0), "most": 5, "text": "A", "place": 2,
+                   "row": (1, 2)}
+        for module, name, parameters in functions():
+            if not set(parameters) <= set(samples):
+                continue
+            results = []
+            for _ in range(2):
+                try:
+                    results.append(function_named(module, name)(*[samples[own] for own in parameters]))
+                except ShareError as error:
+                    results.append((type(error), vars(error)))
+            self.assertEqual(*results)
+            if isinstance(results[0], list):
+                self.assertIsNot(*results)
+
+
+if __name__ == "__main__":
+    unittest.main()
