@@ -1,10 +1,10 @@
 """The readers of texts of rows of nodes, and of pages."""
 
+from sharefold.termshapes import GREATEST_NODE
 from sharefold.termsigns import TermSigns
 from sharefold.textchecks import is_figure
 
 MOST_ITEMS = 200
-GREATEST_NODE = 599
 # Where the reader of a row is behind the signs that are no figures.
 ROW_MODES = {"[": "first", ",": "next", "]": "end"}
 

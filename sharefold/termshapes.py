@@ -5,6 +5,7 @@ A term is mostly handled as the list of its parts: the terms at its nodes, in th
 
 MOST_NODES = 600
 MOST_HEIGHT = 60
+GREATEST_NODE = 599
 
 
 def below(part):

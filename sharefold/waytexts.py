@@ -2,9 +2,9 @@
 
 from sharefold.errors import TooMany
 from sharefold.integers import is_between
-from sharefold.pagesigns import GREATEST_NODE, MOST_ITEMS, PageSigns, RowSigns
+from sharefold.pagesigns import MOST_ITEMS, PageSigns, RowSigns
 from sharefold.plainsteps import is_redex, stepped
-from sharefold.termshapes import MOST_HEIGHT, MOST_NODES
+from sharefold.termshapes import GREATEST_NODE, MOST_HEIGHT, MOST_NODES
 from sharefold.termwriter import written
 from sharefold.textchecks import check_text, read_through
 from sharefold.texterrors import BadLine, NotWritable

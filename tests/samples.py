@@ -2,7 +2,7 @@
 
 import random
 
-from sharefold.errors import InvalidTerm
+from sharefold.errors import InvalidTerm, TooMany
 
 A, B = ("letter", "A"), ("letter", "B")
 I = ("fun", ("name", 0))
@@ -35,6 +35,20 @@ def full(leaves, leaf=A):
     if leaves == 1:
         return leaf
     return ("call", full(leaves // 2, leaf), full(leaves - leaves // 2, leaf))
+
+
+# The steps at 0 of these are too great: for 600 nodes, for a height of 60.
+WIDE = call(funs(1, full(5, ("name", 0))), full(150))
+HIGH = call(funs(1, calls(30, ("name", 0))), calls(30, B))
+
+
+def limit_of(function, *arguments):
+    """The limit for which a function raises TooMany, or None."""
+    try:
+        function(*arguments)
+    except TooMany as error:
+        return error.limit
+    return None
 
 
 def nested(depth, value=0):
@@ -131,3 +145,8 @@ def slow_step(term, node):
     """The term behind a plain step, and the nodes of which its nodes are copies."""
     behind = done_at(told(term), node)
     return untold(behind), nodes_told(behind)
+
+
+def book_of(many):
+    """A book of so many unlike words of numbers alone."""
+    return tuple([(place,) if place < 600 else (place // 600, place % 600) for place in range(many)])

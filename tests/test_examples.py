@@ -48,6 +48,60 @@ EXAMPLES = r'''
 >>> from sharefold.waytexts import *
 >>> [write_way(BT, (0,)), read_way("(\\x.x) B\n0: B\n"), write_row((3, 0)), read_row("[3,0]")]
 ['(\\a.a) (A B)\n0: A B\n', (('call', ('fun', ('name', 0)), ('letter', 'B')), (0,)), '[3,0]', (3, 0)]
+
+[51]
+
+>>> from sharefold.typetexts import *
+>>> [write_type(("to", ("to", ("open", 0), ("open", 26)), ("open", 0))), read_type("a>b>a")]
+['(a>aa)>a', ('to', ('open', 0), ('to', ('open', 1), ('open', 0)))]
+
+[53]
+
+>>> from sharefold.wordbooks import *
+>>> CB = ((0,), (1,), (0, ("over", 1), 2), (("under", 2), ("over", 0)))
+>>> [is_book(CB), is_book(((0,), (0,))), needs_of(CB, 3), word_added(CB, (1,))[1], same_word(CB, 1, ((1,),), 0)]
+[True, False, (0, 1, 2), 1, True]
+
+[54]
+
+>>> from sharefold.folds import *
+>>> CI = ("call", ("fun", ("name", 0)), ("letter", "A"))
+>>> [begun(CI)[1:], families_of(begun(CI)), word_at(begun(CI), 3)]
+[((0, 1, 2, 3), ((0,), (1,), (2,), (3,))), ((1, (0,)),), (3,)]
+
+[55]
+
+>>> from sharefold.familysteps import *
+>>> [marked_step(begun(CI), 0)[1:], family_way(begun(("call", CI[1], CI)), 1), marked_way(begun(("call", CI[1], CI)), (3, 0))[0]]
+[((4,), ((0,), (1,), (2,), (3,), (0, ('over', 1), 2, ('under', 1), 3))), (0,), ('letter', 'A')]
+
+[56]
+
+>>> from sharefold.familyways import *
+>>> CP = ("call", ("fun", ("call", ("name", 0), ("name", 0))), CI)
+>>> [leftmost_family(begun(CP)), unfolded(begun(CP), 9)[0], plain_way(begun(CP), (1, 6)), is_family_way(begun(CP), (6, 1)), is_family_way(begun(CP), (1, 1))]
+[1, (1, 6), (0, 5, 1), True, False]
+
+[57]
+
+>>> from sharefold.histories import *
+>>> [history_of(begun(CP), 1), history_of(walked(begun(CP), (1,)), 6), again(CP, (1,), 6), relatives(CP, (), 5, (0,), 1), relatives(CP, (), 0, (), 5)]
+[(), (), ((), (5,)), True, False]
+
+[58]
+
+>>> from sharefold.netshapes import *
+>>> DN = ((0, 1), (("open", 2, ((1, 0), (-1, 0))), ("letter", "A", ((0, 0),))))
+>>> [is_net(DN), is_net(((), ())), is_raw_net(((1, 0), (("letter", "B", ((),)), ("letter", "A", ((-1, 0),)))))]
+[True, True, True]
+>>> [plain_net(((1, 0), (("letter", "B", ((),)), ("letter", "A", ((-1, 0),))))), plain_order(((1, 0), (("letter", "B", ((),)), ("letter", "A", ((-1, 0),)))))]
+[((0, 0), (('letter', 'A', ((-1, 0),)),)), (1,)]
+
+[59]
+
+>>> from sharefold.termnets import *
+>>> net_of(("call", ("fun", ("name", 0)), ("letter", "A")))
+((0, 1), (('call', 0, ((1, 0), (-1, 0), (3, 0))), ('fun', 0, ((0, 0), (2, 1), (2, 0))), ('open', 0, ((1, 2), (1, 1))), ('letter', 'A', ((0, 2),))))
 '''
 
 
@@ -58,7 +112,7 @@ class ExamplesTest(unittest.TestCase):
         said = []
         results = doctest.DocTestRunner(verbose=False).run(test, out=said.append)
         self.assertEqual(results.failed, 0, "".join(said))
-        self.assertGreaterEqual(results.attempted, 15)
+        self.assertGreaterEqual(results.attempted, 30)
 
 
 if __name__ == "__main__":

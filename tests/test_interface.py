@@ -18,6 +18,15 @@ INTERFACE = {
     "termtexts": "read_term(text) first_refused(text) signs_on(text) write_term(term)",
     "places": "places_of(term) node_at(term,place) redex_marks(term)",
     "waytexts": "write_row(row) read_row(text) write_way(term,way) read_way(text)",
+    "typetexts": "write_type(value) read_type(text)",
+    "wordbooks": "is_book(value) word_added(book,marks) needs_of(book,index) same_word(book,index,other,place)",
+    "folds": "begun(term) is_fold(value) word_at(fold,node) family_at(fold,node) families_of(fold)",
+    "familysteps": "marked_step(fold,node) family_step(fold,family) family_way(fold,family) marked_way(fold,way)",
+    "familyways": "leftmost_family(fold) unfolded(fold,most) is_family_way(fold,value) walked(fold,way) "
+                  "plain_way(fold,way)",
+    "histories": "history_of(fold,family) again(term,way,family) relatives(term,way,node,other,place)",
+    "netshapes": "is_raw_net(value) is_net(value) plain_net(raw) plain_order(raw)",
+    "termnets": "net_of(term)",
 }
 
 
@@ -32,6 +41,11 @@ def function_named(module, name):
     return getattr(importlib.import_module("sharefold." + module), name)
 
 
+# A fold, and a net.
+FOLD = (call(I, A), (0, 1, 2, 3), ((0,), (1,), (2,), (3,), (0, ("over", 1))))
+NET = ((0, 0), (("letter", "A", ((-1, 0),)),))
+
+
 class InterfaceTest(unittest.TestCase):
 
     def test_functions_are_defined_in_their_files(self):
@@ -44,7 +58,7 @@ class InterfaceTest(unittest.TestCase):
             self.assertEqual(list(inspect.signature(function_named(module, name)).parameters), parameters, name)
 
     def test_any_values_meet_errors_of_this_package_alone(self):
-        values = ODD_VALUES + [T, I, B, "A B", "\\x.x", "[1,2]", "A\n", (0, 5), 3]
+        values = ODD_VALUES + [T, I, B, "A B", "\\x.x", "[1,2]", "A\n", (0, 5), 3, FOLD, FOLD[2], NET]
         for module, name, parameters in functions():
             function = function_named(module, name)
             for value in values:
@@ -58,7 +72,8 @@ class InterfaceTest(unittest.TestCase):
 
     def test_results_are_the_same_each_time(self):
         samples = {"term": call(I, T), "node": 0, "value": (0, 3), "way": (3, 0), "most": 5, "text": "A", "place": 2,
-                   "row": (1, 2)}
+                   "row": (1, 2), "book": FOLD[2], "marks": (0, 1), "fold": FOLD, "family": 1, "index": 0,
+                   "other": FOLD[2], "raw": NET}
         for module, name, parameters in functions():
             if not set(parameters) <= set(samples):
                 continue

@@ -6,12 +6,9 @@ import unittest
 from sharefold.errors import InvalidNumber, InvalidTerm, InvalidWay, TooMany
 from sharefold.steps import leftmost, redexes, step
 from sharefold.ways import is_way, leftmost_way, normal_form, terms_along, walk
-from tests.samples import A, B, I, ODD_VALUES, T, W, call, calls, full, funs, random_terms
+from tests.samples import A, HIGH, I, ODD_VALUES, T, W, WIDE, call, funs, random_terms
 
 LOOP = call(W, W)
-# A step at 0 of this one is too great for 600 nodes, that at 0 of the next one for a height of 60.
-WIDE = call(funs(1, call(*[("name", 0)] * 5)), full(150))
-HIGH = call(funs(1, calls(30, ("name", 0))), calls(30, B))
 
 
 class WaysTest(unittest.TestCase):

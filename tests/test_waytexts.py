@@ -10,9 +10,8 @@ from sharefold.termtexts import read_term, write_term
 from sharefold.texterrors import BadLine, BadText, InvalidText, NotWritable
 from sharefold.ways import terms_along
 from sharefold.waytexts import read_row, read_way, write_row, write_way
-from tests.samples import A, B, I, ODD_VALUES, T, W, call, calls, funs, random_terms
+from tests.samples import A, B, HIGH, I, ODD_VALUES, T, W, call, random_terms
 
-HIGH = call(funs(1, calls(30, ("name", 0))), calls(30, B))
 
 
 class RowsTest(unittest.TestCase):

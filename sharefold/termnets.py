@@ -1,0 +1,86 @@
+"""The nets of terms."""
+
+from sharefold.errors import TooMany
+from sharefold.netparts import PORTS, ROOT, net_in
+from sharefold.netshapes import GREATEST_INDEX, MOST_NET_NODES
+from sharefold.terms import check_term
+
+
+class NetBuilder:
+    """The nodes of the net of a term, as they are built.
+
+    Each part of a net is told by its way out, and by its ends of names: a dict with the end of
+    the names of each function outside that has names in it, by the number of the function's node.
+    """
+
+    def __init__(self):
+        self.kinds = []
+        self.joints = []
+
+    def add(self, kind, index):
+        self.kinds.append((kind, index))
+        self.joints.append([()] * PORTS[kind])
+        return len(self.kinds) - 1
+
+    def join(self, one, other):
+        self.joints[one[0]][one[1]] = other
+        self.joints[other[0]][other[1]] = one
+
+    def build(self, term, level, around):
+        """The way out and the ends of names of the net of a term at a level, within functions."""
+        if term[0] == "name":
+            name = self.add("open", level)
+            return (name, 1), {around[len(around) - 1 - term[1]]: (name, 0)}
+        if term[0] == "letter":
+            return (self.add("letter", term[1]), 0), {}
+        if term[0] == "fun":
+            return self._build_fun(term[1], level, around)
+        return self._build_call(term, level, around)
+
+    def _build_fun(self, body, level, around):
+        fun = self.add("fun", level)
+        out, ends = self.build(body, level, (*around, fun))
+        self.join((fun, 1), out)
+        if fun in ends:
+            self.join((fun, 2), ends[fun])
+        return (fun, 0), {owner: end for owner, end in ends.items() if owner != fun}
+
+    def _build_call(self, term, level, around):
+        call = self.add("call", level)
+        out, ends = self.build(term[1], level, around)
+        self.join((call, 0), out)
+        out, others = self.build(term[2], level + 1, around)
+        self.join((call, 2), out)
+        for owner, end in others.items():
+            box = self.add("box", level)
+            self.join((box, 1), end)
+            ends[owner] = self._shared(ends.get(owner), (box, 0), level)
+        return (call, 1), ends
+
+    def _shared(self, end, front, level):
+        """The end of names of what has this end, if any, and of an argument with a box's front."""
+        if end is None:
+            return front
+        fan = self.add("fan", level)
+        self.join((fan, 1), end)
+        self.join((fan, 2), front)
+        return fan, 0
+
+    def net(self, out):
+        """The net of what was built, its way out at the root."""
+        self.joints[out[0]][out[1]] = ROOT
+        nodes = [(*kind, tuple(ends)) for kind, ends in zip(self.kinds, self.joints)]
+        return net_in(out, nodes)
+
+
+def net_of(term):
+    """The net of a term."""
+    check_term(term)
+    builder = NetBuilder()
+    out, _ = builder.build(term, 0, ())
+    net = builder.net(out)
+    if len(net[1]) > MOST_NET_NODES:
+        raise TooMany(MOST_NET_NODES)
+    if any([kind != "letter" and index > GREATEST_INDEX for kind, index, _ in net[1]]):
+        raise TooMany(GREATEST_INDEX)
+    return net
