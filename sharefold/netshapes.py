@@ -48,7 +48,7 @@ def is_joined(root, nodes, end):
     other = nodes[end[0]][2][end[1]]
     if not isinstance(other, tuple) or len(other) != 2:
         return other == ()
-    if is_integer(other[0]) and is_integer(other[1]) and other == ROOT:
+    if other == ROOT and is_integer(other[1]):
         return root == end
     return is_end(other, nodes) and other != end and nodes[other[0]][2][other[1]] == end
 

@@ -17,43 +17,43 @@ class NetBuilder:
         self.kinds = []
         self.joints = []
 
-    def add(self, kind, index):
+    def make(self, kind, index):
         self.kinds.append((kind, index))
         self.joints.append([()] * PORTS[kind])
         return len(self.kinds) - 1
 
-    def join(self, one, other):
+    def tie(self, one, other):
         self.joints[one[0]][one[1]] = other
         self.joints[other[0]][other[1]] = one
 
     def build(self, term, level, around):
         """The way out and the ends of names of the net of a term at a level, within functions."""
         if term[0] == "name":
-            name = self.add("open", level)
+            name = self.make("open", level)
             return (name, 1), {around[len(around) - 1 - term[1]]: (name, 0)}
         if term[0] == "letter":
-            return (self.add("letter", term[1]), 0), {}
+            return (self.make("letter", term[1]), 0), {}
         if term[0] == "fun":
             return self._build_fun(term[1], level, around)
         return self._build_call(term, level, around)
 
     def _build_fun(self, body, level, around):
-        fun = self.add("fun", level)
+        fun = self.make("fun", level)
         out, ends = self.build(body, level, (*around, fun))
-        self.join((fun, 1), out)
+        self.tie((fun, 1), out)
         if fun in ends:
-            self.join((fun, 2), ends[fun])
+            self.tie((fun, 2), ends[fun])
         return (fun, 0), {owner: end for owner, end in ends.items() if owner != fun}
 
     def _build_call(self, term, level, around):
-        call = self.add("call", level)
+        call = self.make("call", level)
         out, ends = self.build(term[1], level, around)
-        self.join((call, 0), out)
+        self.tie((call, 0), out)
         out, others = self.build(term[2], level + 1, around)
-        self.join((call, 2), out)
+        self.tie((call, 2), out)
         for owner, end in others.items():
-            box = self.add("box", level)
-            self.join((box, 1), end)
+            box = self.make("box", level)
+            self.tie((box, 1), end)
             ends[owner] = self._shared(ends.get(owner), (box, 0), level)
         return (call, 1), ends
 
@@ -61,9 +61,9 @@ class NetBuilder:
         """The end of names of what has this end, if any, and of an argument with a box's front."""
         if end is None:
             return front
-        fan = self.add("fan", level)
-        self.join((fan, 1), end)
-        self.join((fan, 2), front)
+        fan = self.make("fan", level)
+        self.tie((fan, 1), end)
+        self.tie((fan, 2), front)
         return fan, 0
 
     def net(self, out):

@@ -90,6 +90,10 @@ class TooGreatTest(unittest.TestCase):
             step(term, 0)
         self.assertEqual(caught.exception.limit, 600)
 
+    def test_names_of_functions_outside_have_no_copies(self):
+        body = full(20, ("name", 1))
+        self.assertEqual(step(funs(1, call(funs(1, body), full(40))), 1), funs(1, full(20, ("name", 0))))
+
     def test_what_is_left_out_does_not_count(self):
         self.assertEqual(step(call(funs(1, B), calls(57, full(2))), 0), B)
 

@@ -26,6 +26,12 @@ class ReadTest(unittest.TestCase):
             read_term(text)
         self.assertEqual(caught.exception.place, place, text)
 
+    def test_letters(self):
+        for sign in "ABCDEFGHIJKLMNOPQRSTUVWXYZ":
+            self.assertEqual(read_term(sign), ("letter", sign))
+        for sign in "abcdefghijklmnopqrstuvwxyz":
+            self.assertEqual(read_term("\\" + sign + "." + sign), I)
+
     def test_calls_from_the_left(self):
         self.assertEqual(read_term("A B A"), call(A, B, A))
         self.assertEqual(read_term("A(B A)"), call(A, call(B, A)))
@@ -114,6 +120,20 @@ class ReadTest(unittest.TestCase):
             read_term("\\x." + text)
         self.assertEqual(caught.exception.limit, 600)
         self.assertRaises(BadText, read_term, "A" * 1999 + ")")
+
+    def test_functions_and_names_are_measured(self):
+        for many, text in [(600, "\\x." + write_term(full(300)).replace("A", "x")),
+                           (600, "$x.\\y." + write_term(full(292))),
+                           (600, "$x.\\y." + write_term(full(292)).replace("A", "x"))]:
+            self.assertEqual(size_of(read_term(text)), many)
+            with self.assertRaises(TooMany) as caught:
+                read_term("\\z." + text)
+            self.assertEqual(caught.exception.limit, 600)
+        for text in ["\\a." * 58 + "a", "A(" * 52 + "$x.A" + ")" * 52, "$x." + "A(" * 56 + "x" + ")" * 56]:
+            self.assertEqual(height_of(read_term("\\z." + text)), 60)
+            with self.assertRaises(TooMany) as caught:
+                read_term("\\y.\\z." + text)
+            self.assertEqual(caught.exception.limit, 60)
 
     def test_like_texts_read_whole(self):
         dice = random.Random(7)

@@ -10,7 +10,7 @@ from sharefold.termtexts import read_term, write_term
 from sharefold.texterrors import BadLine, BadText, InvalidText, NotWritable
 from sharefold.ways import terms_along
 from sharefold.waytexts import read_row, read_way, write_row, write_way
-from tests.samples import A, B, HIGH, I, ODD_VALUES, T, W, call, random_terms
+from tests.samples import A, B, HIGH, I, ODD_VALUES, T, W, call, full, funs, random_terms
 
 
 
@@ -144,6 +144,10 @@ class ReadWayTest(unittest.TestCase):
         self.assert_bad_line(1, "(\\x.x) A\n0: " + "A" * 61 + "\n")
         self.assert_bad_line(2, "(\\x.x) ((\\x.x) A)\n0: (\\x.x) A\n0: " + "A" * 301 + "\n")
         self.assertEqual(read_way("A" * 60 + "\n"), (call(*[A] * 60), ()))
+        low = funs(1, full(300))
+        self.assertEqual(read_way(write_term(low) + "\n"), (low, ()))
+        self.assert_bad_line(0, "\\z." + write_term(low) + "\n")
+        self.assert_bad_line(1, "(\\x.x) A\n0: \\z." + write_term(low) + "\n")
 
     def test_lines_without_a_redex(self):
         self.assert_bad_line(1, "A\n0: A\n")
