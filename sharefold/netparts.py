@@ -3,6 +3,9 @@
 # How many ports the nodes of each kind have.
 PORTS = {"call": 3, "fun": 3, "fan": 3, "open": 2, "box": 2, "letter": 1}
 
+# The kinds of the nodes that readings go through.
+SHARERS = ("fan", "open", "box")
+
 # From which ports the walk goes on where it comes to a port of a node of a kind, in this order.
 ONWARDS = {
     ("call", 1): (0, 2), ("fun", 0): (1,), ("fan", 0): (1, 2), ("fan", 1): (0,), ("fan", 2): (0,),
@@ -31,7 +34,11 @@ def walk_order(root, nodes):
 
 def net_in(root, nodes):
     """The net of the raw net of a root and its nodes, however many these are."""
-    order = walk_order(root, nodes)
+    return ordered_net(root, nodes, walk_order(root, nodes))
+
+
+def ordered_net(root, nodes, order):
+    """The net of a raw net, to the nodes of which the walk comes in this order."""
     numbers = {node: number for number, node in enumerate(order)}
     plain = []
     for node in order:

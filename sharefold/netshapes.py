@@ -1,6 +1,6 @@
 """Raw nets, and nets."""
 
-from sharefold.errors import InvalidNet
+from sharefold.errors import InvalidEnd, InvalidNet, TooMany
 from sharefold.integers import is_between, is_integer
 from sharefold.netparts import PORTS, ROOT, net_in, walk_order
 from sharefold.terms import is_capital
@@ -64,6 +64,24 @@ def is_net(value):
 def check_raw_net(value):
     if not is_raw_net(value):
         raise InvalidNet("not a raw net")
+
+
+def check_net(value):
+    if not is_net(value):
+        raise InvalidNet("not a net")
+
+
+def check_end(value, nodes):
+    if not is_end(value, nodes):
+        raise InvalidEnd("not an end of a node of the net")
+
+
+def check_bounds(net):
+    """Refuse what would be a net, but for how many nodes it has, and how great their indices are."""
+    if len(net[1]) > MOST_NET_NODES:
+        raise TooMany(MOST_NET_NODES)
+    if any([kind != "letter" and index > GREATEST_INDEX for kind, index, _ in net[1]]):
+        raise TooMany(GREATEST_INDEX)
 
 
 def plain_net(raw):

@@ -1,8 +1,7 @@
 """The nets of terms."""
 
-from sharefold.errors import TooMany
 from sharefold.netparts import PORTS, ROOT, net_in
-from sharefold.netshapes import GREATEST_INDEX, MOST_NET_NODES
+from sharefold.netshapes import check_bounds
 from sharefold.terms import check_term
 
 
@@ -76,11 +75,13 @@ class NetBuilder:
 def net_of(term):
     """The net of a term."""
     check_term(term)
+    return built_net(term)
+
+
+def built_net(term):
+    """The net of what is a term."""
     builder = NetBuilder()
     out, _ = builder.build(term, 0, ())
     net = builder.net(out)
-    if len(net[1]) > MOST_NET_NODES:
-        raise TooMany(MOST_NET_NODES)
-    if any([kind != "letter" and index > GREATEST_INDEX for kind, index, _ in net[1]]):
-        raise TooMany(GREATEST_INDEX)
+    check_bounds(net)
     return net

@@ -102,6 +102,63 @@ EXAMPLES = r'''
 >>> from sharefold.termnets import *
 >>> net_of(("call", ("fun", ("name", 0)), ("letter", "A")))
 ((0, 1), (('call', 0, ((1, 0), (-1, 0), (3, 0))), ('fun', 0, ((0, 0), (2, 1), (2, 0))), ('open', 0, ((1, 2), (1, 1))), ('letter', 'A', ((0, 2),))))
+
+[60]
+
+>>> from sharefold.liveedges import *
+>>> [live_edges(DN), edge_sort(DN, (0, 1)), live_edges(net_of(("call", ("fun", ("name", 0)), ("letter", "A"))))]
+[((0, 1),), 'letter', ((0, 1),)]
+
+[61]
+
+>>> from sharefold.doings import *
+>>> [done_paper(DN, (0, 1)), done_paper(net_of(("call", ("fun", ("name", 0)), ("letter", "A"))), (0, 1))]
+[(((0, 0), (('letter', 'A', ((-1, 0),)),)), ((1, 1),)), (((0, 1), (('open', 0, ((1, 0), (-1, 0))), ('letter', 'A', ((0, 0),)))), ((2, 0), (3, 0)))]
+
+[62]
+
+>>> from sharefold.contexts import *
+>>> [marked((), 1, 2), unmarked(((), (2, ())), 1), unmarked((), 0), opened(((1, ()),), 0), closed(((), (1, ())), 0), closed(((1, ()),), 0)]
+[((), (2, ())), (2, ()), None, ((), (1, ())), ((1, ()),), None]
+>>> [paired(((1, ()),), 0), unpaired((("pair", (1, ()), ()),), 0), paired((), 3), unpaired(((1, ()),), 0), unpaired(((), (1, ())), 0)]
+[(('pair', (1, ()), ()),), ((1, ()),), (), None, ((), (), (1, ()))]
+
+[63]
+
+>>> from sharefold.moves import *
+>>> ET = ("call", ("fun", ("call", ("name", 0), ("name", 0))), ("letter", "A"))
+>>> EN = net_of(ET)
+>>> [EN[1][4][:2], moved(EN, (4, 1), ()), moved(EN, (4, 0), ()), walked(EN, (3, 1), ()), walked(EN, (5, 1), ())]
+[('fan', 0), ('on', (1, 2), ((1, ()),)), ('stuck', (4, 0), ()), ('met', (1, 2), ((1, ()),), 3), ('met', (1, 2), ((2, ()),), 4)]
+
+[64]
+
+>>> from sharefold.readings import *
+>>> [read_term(EN) == ET, places_of(EN), moves_of(EN), stuck_at(EN), is_reading(EN, (ET, places_of(EN)))]
+[True, ((0, ()), (1, ()), (2, ()), (1, ((1, ()),)), (1, ((2, ()),)), (7, ())), 11, None, True]
+>>> [stuck_at(((), ())), stuck_at(((0, 1), (("call", 0, ((), (-1, 0), ())),)))]
+[(), ()]
+
+[65]
+
+>>> from sharefold.wanted import *
+>>> [passed_edges(EN), passed_by(EN, (0, 1)), wanted_edge(EN), wanted_way(EN), wanted_edge(net_of(("letter", "A")))]
+[((0, 1),), (1,), (0, 1), (0, ()), None]
+
+[66]
+
+>>> from sharefold.carried import *
+>>> EM = done(EN, (0, 1))
+>>> [places_of(EM), carried_places(EM, (2, 3)), places_of(done(EM, (2, 3))), calls_through(EN, (0, 1))]
+[((0, ()), (3, ((1, ()),)), (3, ((2, ()),))), ((0, ()), (2, ()), (5, ())), ((0, ()), (2, ()), (5, ())), (0,)]
+
+[67]
+
+>>> from sharefold.netruns import *
+>>> FI, FW = ("fun", ("name", 0)), ("fun", ("call", ("name", 0), ("name", 0)))
+>>> FT = ("call", FW, ("call", FI, ("letter", "A")))
+>>> [is_run(FT, ()), is_run(FT, ((0, 0),)), term_behind(FT, ()) == FT, term_behind(FT, run_by(FT, (0,) * 60)), net_behind(FT, ()) == net_of(FT)]
+[True, False, True, ('call', ('letter', 'A'), ('letter', 'A')), True]
 '''
 
 
@@ -112,7 +169,7 @@ class ExamplesTest(unittest.TestCase):
         said = []
         results = doctest.DocTestRunner(verbose=False).run(test, out=said.append)
         self.assertEqual(results.failed, 0, "".join(said))
-        self.assertGreaterEqual(results.attempted, 30)
+        self.assertGreaterEqual(results.attempted, 60)
 
 
 if __name__ == "__main__":

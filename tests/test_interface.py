@@ -27,6 +27,15 @@ INTERFACE = {
     "histories": "history_of(fold,family) again(term,way,family) relatives(term,way,node,other,place)",
     "netshapes": "is_raw_net(value) is_net(value) plain_net(raw) plain_order(raw)",
     "termnets": "net_of(term)",
+    "liveedges": "live_edges(net) edge_sort(net,edge)",
+    "doings": "done(net,edge) done_paper(net,edge) is_done_paper(net,edge,value)",
+    "contexts": "is_context(value) level_at(context,index) marked(context,index,mark) unmarked(context,index) "
+                "opened(context,index) closed(context,index) paired(context,index) unpaired(context,index)",
+    "moves": "moved(net,end,context) walked(net,end,context)",
+    "readings": "read_term(net) places_of(net) moves_of(net) stuck_at(net) is_reading(net,value)",
+    "wanted": "passed_edges(net) passed_by(net,edge) wanted_edge(net) wanted_way(net)",
+    "carried": "carried_places(net,edge) calls_through(net,edge)",
+    "netruns": "is_run(term,value) net_behind(term,run) term_behind(term,run) run_by(term,numbers)",
 }
 
 
@@ -44,6 +53,8 @@ def function_named(module, name):
 # A fold, and a net.
 FOLD = (call(I, A), (0, 1, 2, 3), ((0,), (1,), (2,), (3,), (0, ("over", 1))))
 NET = ((0, 0), (("letter", "A", ((-1, 0),)),))
+CALLED = ((0, 1), (("call", 0, ((1, 0), (-1, 0), (3, 0))), ("fun", 0, ((0, 0), (2, 1), (2, 0))),
+                   ("open", 0, ((1, 2), (1, 1))), ("letter", "A", ((0, 2),))))
 
 
 class InterfaceTest(unittest.TestCase):
@@ -58,7 +69,8 @@ class InterfaceTest(unittest.TestCase):
             self.assertEqual(list(inspect.signature(function_named(module, name)).parameters), parameters, name)
 
     def test_any_values_meet_errors_of_this_package_alone(self):
-        values = ODD_VALUES + [T, I, B, "A B", "\\x.x", "[1,2]", "A\n", (0, 5), 3, FOLD, FOLD[2], NET]
+        values = ODD_VALUES + [T, I, B, "A B", "\\x.x", "[1,2]", "A\n", (0, 5), 3, FOLD, FOLD[2], NET, CALLED,
+                               (0, 1), ((), (1, ())), ((0, 1),)]
         for module, name, parameters in functions():
             function = function_named(module, name)
             for value in values:
@@ -73,7 +85,8 @@ class InterfaceTest(unittest.TestCase):
     def test_results_are_the_same_each_time(self):
         samples = {"term": call(I, T), "node": 0, "value": (0, 3), "way": (3, 0), "most": 5, "text": "A", "place": 2,
                    "row": (1, 2), "book": FOLD[2], "marks": (0, 1), "fold": FOLD, "family": 1, "index": 0,
-                   "other": FOLD[2], "raw": NET}
+                   "other": FOLD[2], "raw": NET, "net": CALLED, "edge": (0, 1), "context": ((), (1, ())), "mark": 2,
+                   "end": (2, 1), "run": ((0, 1), (0, 1)), "numbers": (3, 10 ** 6)}
         for module, name, parameters in functions():
             if not set(parameters) <= set(samples):
                 continue

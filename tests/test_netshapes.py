@@ -7,34 +7,8 @@ from sharefold.errors import InvalidNet
 from sharefold.netshapes import is_net, is_raw_net, plain_net, plain_order
 from sharefold.termnets import net_of
 from tests.net_oracle import slow_plain, slow_walk
+from tests.net_samples import JOINED, LETTER, PORTS, chain, random_raw
 from tests.samples import ODD_VALUES, T, random_terms
-
-PORTS = {"call": 3, "fun": 3, "fan": 3, "open": 2, "box": 2, "letter": 1}
-LETTER = ((0, 0), (("letter", "A", ((-1, 0),)),))
-# A call of an open one that comes back to it, with a fun of which nothing else is joined.
-JOINED = ((0, 1), (("call", 3, ((1, 1), (-1, 0), (1, 0))), ("open", 39, ((0, 2), (0, 0)))))
-
-
-def chain(many):
-    """A net of so many opens one behind the other."""
-    ends = [(-1, 0)] + [(node, 0) for node in range(many)]
-    nodes = [("open", 0, ((node + 1, 1) if node + 1 < many else (), ends[node])) for node in range(many)]
-    return (0, 1), tuple(nodes)
-
-
-def random_raw(dice, many):
-    """A raw net of so many nodes, whose ends are joined by chance."""
-    kinds = [dice.choice(list(PORTS)) for _ in range(many)]
-    ends = [(node, port) for node, kind in enumerate(kinds) for port in range(PORTS[kind])] + [(-1, 0)]
-    dice.shuffle(ends)
-    joined = {}
-    for place in range(0, len(ends) - 1, 2):
-        if dice.random() < 0.9:
-            joined[ends[place]], joined[ends[place + 1]] = ends[place + 1], ends[place]
-    nodes = [(kind, "Q" if kind == "letter" else dice.randrange(40),
-              tuple([joined.get((node, port), ()) for port in range(PORTS[kind])])) for node, kind in enumerate(kinds)]
-    return joined.get((-1, 0), ()), tuple(nodes)
-
 
 def renumbered(raw, numbers):
     """A raw net each node of which has another number; numbers that are left over have no nodes yet."""
