@@ -36,10 +36,4 @@ def calls_through(net, edge):
     """The ascending tuple of the nodes of the term that are read at the call of a live edge."""
     if check_edge(net, edge) != "call":
         raise InvalidEdge("no edge of a call and a fun")
-    node = call_of(net, edge)
-    return reading_of(net).calls_at(node)
-
-
-def call_of(net, edge):
-    """The call of a live edge of a call and a fun."""
-    return edge[0] if net[1][edge[0]][0] == "call" else edge[1]
+    return reading_of(net).lot_of(edge)

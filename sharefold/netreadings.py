@@ -5,7 +5,7 @@ from sharefold.levels import is_same_below
 from sharefold.liveedges import sort_of
 from sharefold.netmoves import way_on
 from sharefold.netparts import SHARERS
-from sharefold.termshapes import MOST_HEIGHT, MOST_NODES
+from sharefold.termshapes import MOST_HEIGHT, MOST_NODES, parts_of, redexes_in
 
 
 class Reading:
@@ -69,9 +69,20 @@ class Reading:
             raise NotRead(end)
         return own[0]
 
-    def redex_way(self, redex):
-        """The way from a redex to the function of its call."""
-        return self.ways[redex + 1]
+    def least_redex(self):
+        """The least redex of the term that is read, or None."""
+        redexes = redexes_in(parts_of(self.term))
+        return redexes[0] if redexes else None
+
+    def wanted_edge(self):
+        """The first live edge that is passed from the least redex to the function of its call, or None."""
+        redex = self.least_redex()
+        edges = [] if redex is None else self.edges_on(self.ways[redex + 1])
+        return edges[0] if edges else None
+
+    def wanted_passes(self):
+        """The list of the passes from the least redex, which there must be, to the function of its call."""
+        return self.passes_on(self.ways[self.least_redex() + 1])
 
     def edges_on(self, way):
         """The list of the live edges that are passed on a way, as often as they are."""
@@ -86,9 +97,10 @@ class Reading:
         passed = [(node, port) for node, port in way if self.nodes[node][0] in SHARERS]
         return [(node, "in" if port == 0 else "out") for node, port in passed]
 
-    def calls_at(self, node):
-        """The ascending tuple of the nodes of the term whose places have a call of the net."""
-        return tuple([own for own, place in enumerate(self.places) if place[0] == node])
+    def lot_of(self, edge):
+        """The ascending tuple of the redexes whose places have the call of a live edge of a call and a fun."""
+        call = edge[0] if self.nodes[edge[0]][0] == "call" else edge[1]
+        return tuple([node for node, place in enumerate(self.places) if place[0] == call])
 
 
 def reading_of(net):

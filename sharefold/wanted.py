@@ -3,7 +3,6 @@
 from sharefold.liveedges import check_edge
 from sharefold.netreadings import reading_of
 from sharefold.readings import checked_reading
-from sharefold.termshapes import parts_of, redexes_in
 
 
 def passed_edges(net):
@@ -23,30 +22,15 @@ def passed_by(net, edge):
     return tuple([node for node, way in enumerate(reading.ways) if edge in reading.edges_on(way)])
 
 
-def least_redex(reading):
-    """The least redex of the term that is read, or None."""
-    redexes = redexes_in(parts_of(reading.term))
-    return redexes[0] if redexes else None
-
-
-def wanted_in(reading):
-    """The wanted edge of a net that is read, or None."""
-    redex = least_redex(reading)
-    if redex is None:
-        return None
-    edges = reading.edges_on(reading.redex_way(redex))
-    return edges[0] if edges else None
-
-
 def wanted_edge(net):
     """The wanted edge of a net, or None."""
-    return wanted_in(checked_reading(net))
+    return checked_reading(net).wanted_edge()
 
 
 def wanted_way(net):
     """The least redex of the term that is read, and the tuple of the passes from its call to its fun, or None."""
     reading = checked_reading(net)
-    redex = least_redex(reading)
+    redex = reading.least_redex()
     if redex is None:
         return None
-    return redex, tuple(reading.passes_on(reading.redex_way(redex)))
+    return redex, tuple(reading.wanted_passes())
