@@ -159,6 +159,60 @@ EXAMPLES = r'''
 >>> FT = ("call", FW, ("call", FI, ("letter", "A")))
 >>> [is_run(FT, ()), is_run(FT, ((0, 0),)), term_behind(FT, ()) == FT, term_behind(FT, run_by(FT, (0,) * 60)), net_behind(FT, ()) == net_of(FT)]
 [True, False, True, ('call', ('letter', 'A'), ('letter', 'A')), True]
+
+[68]
+
+>>> from sharefold.netlots import *
+>>> from sharefold.ways import walk
+>>> [run_lots(FT, run_by(FT, (0,))), run_lots(FT, run_by(FT, (1,))), run_way(FT, run_by(FT, (3,))), counts_of(FT, run_by(FT, (0,)))]
+[[(0,)], [(5,)], (5,), (1, 0, 0, 0)]
+>>> walk(FT, run_way(FT, run_by(FT, (0,) * 60)))
+('call', ('letter', 'A'), ('letter', 'A'))
+
+[69]
+
+>>> from sharefold.netweights import *
+>>> [weight_behind(FT, ()), passes_behind(FT, ()), weight_behind(FI, ()), wanted_behind(FI, ()), passes_behind(FI, ())]
+[0, (), -1, None, None]
+
+[70]
+
+>>> from sharefold.netfolds import *
+>>> [folds_of(FT, 1), folds_of(FT, 9)[0], folds_to_normal(FT, 9), folds_to_normal(FT, 1), fold_behind(FI, ())]
+[([(0,)], ('call', ('call', ('fun', ('name', 0)), ('letter', 'A')), ('call', ('fun', ('name', 0)), ('letter', 'A')))), [(0,), (1, 5)], 2, None, None]
+
+[71]
+
+>>> from sharefold.foldfamilies import *
+>>> [agreement(FT, 0), agreement(FT, 9)[1], shows_agreement(FT, agreement(FT, 1)), shows_agreement(FT, ((0, (0, 5), FT),))]
+[(), (1, (1, 5), ('call', ('letter', 'A'), ('letter', 'A'))), True, False]
+
+[72]
+
+>>> from sharefold.types import *
+>>> GA, GB = ("open", 0), ("to", ("open", 3), ("to", ("open", 1), ("open", 3)))
+>>> [is_type(GB), is_type(("to", GA)), type_height(GB), opens_of(GB), plain_types((GB, ("open", 1)))[0] == ("to", GA, ("to", ("open", 1), GA)), filled((GA,), (GB,)) == (GB,)]
+[True, False, 2, (1, 3), True, True]
+
+[73]
+
+>>> from sharefold.typings import *
+>>> [types_of(I) == ("types", (("to", GA, GA), GA)), types_of(W)[0], has_types(W), takes_types(W, ("clash", (), ((1, 0),))), takes_types(W, ("clash", (), ((1, 1),))), fits_typing(I, (("to", I, I), I))]
+[True, 'clash', False, True, False, False]
+
+[78]
+
+>>> from sharefold.residuals import *
+>>> HI, HW = ("fun", ("name", 0)), ("fun", ("call", ("name", 0), ("name", 0)))
+>>> HT = ("call", HW, ("call", HI, ("letter", "A")))
+>>> [left_behind(HT, 0, (0, 5)), left_behind(HT, 5, (0, 5)), left_along(HT, (0, 1), (5,))]
+[(1, 5), (0,), (2,)]
+
+[79]
+
+>>> from sharefold.developments import *
+>>> [development(HT, (0, 5)), developed(HT, (0, 5)), is_development(HT, (0, 5), (0, 1, 2)), is_development(HT, (0, 5), (0, 1)), full_way(HT)]
+[(5, 0), ('call', ('letter', 'A'), ('letter', 'A')), True, False, (5, 0)]
 '''
 
 
@@ -169,7 +223,7 @@ class ExamplesTest(unittest.TestCase):
         said = []
         results = doctest.DocTestRunner(verbose=False).run(test, out=said.append)
         self.assertEqual(results.failed, 0, "".join(said))
-        self.assertGreaterEqual(results.attempted, 60)
+        self.assertGreaterEqual(results.attempted, 80)
 
 
 if __name__ == "__main__":

@@ -36,6 +36,14 @@ INTERFACE = {
     "wanted": "passed_edges(net) passed_by(net,edge) wanted_edge(net) wanted_way(net)",
     "carried": "carried_places(net,edge) calls_through(net,edge)",
     "netruns": "is_run(term,value) net_behind(term,run) term_behind(term,run) run_by(term,numbers)",
+    "netlots": "run_lots(term,run) run_way(term,run) counts_of(term,run)",
+    "netweights": "wanted_behind(term,run) passes_behind(term,run) weight_behind(term,run)",
+    "netfolds": "fold_behind(term,run) folds_of(term,most) folds_to_normal(term,most)",
+    "foldfamilies": "agreement(term,most) shows_agreement(term,value)",
+    "types": "is_type(value) type_height(own) opens_of(own) plain_types(types) filled(types,fillings)",
+    "typings": "fits_typing(term,value) has_types(term) types_of(term) takes_types(term,value)",
+    "residuals": "left_behind(term,node,lot) left_along(term,way,lot)",
+    "developments": "development(term,lot) developed(term,lot) is_development(term,lot,value) full_way(term)",
 }
 
 
@@ -55,6 +63,7 @@ FOLD = (call(I, A), (0, 1, 2, 3), ((0,), (1,), (2,), (3,), (0, ("over", 1))))
 NET = ((0, 0), (("letter", "A", ((-1, 0),)),))
 CALLED = ((0, 1), (("call", 0, ((1, 0), (-1, 0), (3, 0))), ("fun", 0, ((0, 0), (2, 1), (2, 0))),
                    ("open", 0, ((1, 2), (1, 1))), ("letter", "A", ((0, 2),))))
+TYPE = ("to", ("open", 1), ("open", 0))
 
 
 class InterfaceTest(unittest.TestCase):
@@ -70,7 +79,7 @@ class InterfaceTest(unittest.TestCase):
 
     def test_any_values_meet_errors_of_this_package_alone(self):
         values = ODD_VALUES + [T, I, B, "A B", "\\x.x", "[1,2]", "A\n", (0, 5), 3, FOLD, FOLD[2], NET, CALLED,
-                               (0, 1), ((), (1, ())), ((0, 1),)]
+                               (0, 1), ((), (1, ())), ((0, 1),), TYPE, (TYPE,), ("types", (TYPE,))]
         for module, name, parameters in functions():
             function = function_named(module, name)
             for value in values:
@@ -86,7 +95,8 @@ class InterfaceTest(unittest.TestCase):
         samples = {"term": call(I, T), "node": 0, "value": (0, 3), "way": (3, 0), "most": 5, "text": "A", "place": 2,
                    "row": (1, 2), "book": FOLD[2], "marks": (0, 1), "fold": FOLD, "family": 1, "index": 0,
                    "other": FOLD[2], "raw": NET, "net": CALLED, "edge": (0, 1), "context": ((), (1, ())), "mark": 2,
-                   "end": (2, 1), "run": ((0, 1), (0, 1)), "numbers": (3, 10 ** 6)}
+                   "end": (2, 1), "run": ((0, 1),), "numbers": (3, 10 ** 6),
+                   "lot": (0, 3), "own": TYPE, "types": (TYPE, TYPE[2]), "fillings": (TYPE, ("open", 5))}
         for module, name, parameters in functions():
             if not set(parameters) <= set(samples):
                 continue
