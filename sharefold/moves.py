@@ -1,8 +1,8 @@
 """The moves of readings through nets."""
 
 from sharefold.contexts import check_context
-from sharefold.netmoves import passed_through, way_on
-from sharefold.netparts import ROOT, SHARERS
+from sharefold.netmoves import move_from, way_on
+from sharefold.netparts import ROOT
 from sharefold.netshapes import check_end, check_net
 
 
@@ -16,14 +16,7 @@ def check_reader(net, end, context):
 def moved(net, end, context):
     """What becomes of a reading that comes to an end."""
     check_reader(net, end, context)
-    kind, index, ends = net[1][end[0]]
-    if kind not in SHARERS:
-        return "met", end, context
-    passed = passed_through(kind, index, end[1], context)
-    if passed is None:
-        return "stuck", end, context
-    port, context = passed
-    return "on", ends[port], context
+    return move_from(net[1], end, context)
 
 
 def walked(net, end, context):

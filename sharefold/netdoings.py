@@ -59,9 +59,8 @@ class Doing:
     def _in_turn(self):
         """The letter, or the node with the lesser index, and the other one."""
         one, other = self.edge
-        if self.nodes[other][0] == "letter":
-            return other, one
-        if self.nodes[one][0] != "letter" and self.nodes[other][1] < self.nodes[one][1]:
+        # The walk comes to a letter by the other one alone, so that this has the lesser number.
+        if self.nodes[other][0] == "letter" or self.nodes[other][1] < self.nodes[one][1]:
             return other, one
         return one, other
 

@@ -17,6 +17,18 @@ def passed_through(kind, index, port, context):
     return None if behind is None else (1, behind)
 
 
+def move_from(nodes, end, context):
+    """What becomes of a reading that comes to an end of a node: a word, an end, and a context."""
+    kind, index, joints = nodes[end[0]]
+    if kind not in SHARERS:
+        return "met", end, context
+    passed = passed_through(kind, index, end[1], context)
+    if passed is None:
+        return "stuck", end, context
+    port, context = passed
+    return "on", joints[port], context
+
+
 def way_on(nodes, end, context, moves):
     """The way of a reading that has made so many moves, from an end to where it meets a node, or is stuck.
 
@@ -24,17 +36,12 @@ def way_on(nodes, end, context, moves):
     in the end.
     """
     ends = []
-    while True:
+    word = "on"
+    while word == "on":
         ends.append(end)
         if end == () or end == ROOT:
             return "stuck", ends, context
         if moves + len(ends) > MOST_MOVES:
             raise TooMany(MOST_MOVES)
-        kind, index, joints = nodes[end[0]]
-        if kind not in SHARERS:
-            return "met", ends, context
-        passed = passed_through(kind, index, end[1], context)
-        if passed is None:
-            return "stuck", ends, context
-        port, context = passed
-        end = joints[port]
+        word, end, context = move_from(nodes, end, context)
+    return word, ends, context

@@ -22,7 +22,7 @@ class Reading:
         self.ways = []
         self.moves = 0
 
-    def read(self):
+    def read_all(self):
         self.term = self._part([], self.root, (), ())
 
     def _part(self, ahead, end, context, around):
@@ -106,5 +106,5 @@ class Reading:
 def reading_of(net):
     """The reading of a net, gone through to the end."""
     reading = Reading(net)
-    reading.read()
+    reading.read_all()
     return reading

@@ -65,7 +65,7 @@ class NetBuilder:
         self.tie((fan, 2), front)
         return fan, 0
 
-    def net(self, out):
+    def built(self, out):
         """The net of what was built, its way out at the root."""
         self.joints[out[0]][out[1]] = ROOT
         nodes = [(*kind, tuple(ends)) for kind, ends in zip(self.kinds, self.joints)]
@@ -82,6 +82,6 @@ def built_net(term):
     """The net of what is a term."""
     builder = NetBuilder()
     out, _ = builder.build(term, 0, ())
-    net = builder.net(out)
+    net = builder.built(out)
     check_bounds(net)
     return net

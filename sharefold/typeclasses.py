@@ -62,7 +62,7 @@ class TypeClasses:
             firsts = {}
             for arrow in self.arrows:
                 first = firsts.setdefault(self.spoken(arrow), arrow)
-                if first != arrow and self.join(first, arrow):
+                if self.join(first, arrow):
                     joins.append((first, arrow))
         return joins
 

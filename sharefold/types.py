@@ -1,8 +1,8 @@
 """Types."""
 
 from sharefold.errors import InvalidFillings, InvalidType, InvalidTyping
-from sharefold.integers import is_between
-from sharefold.typeshapes import MOST_SIZE, MOST_TYPE_HEIGHT, check_measures, measured_filled, opens_in, with_fillings
+from sharefold.typeshapes import MOST_SIZE, MOST_TYPE_HEIGHT, check_measures, is_type_within
+from sharefold.typeshapes import measured_filled, opens_in, with_fillings
 
 GREATEST_OPEN = 2000
 MOST_TYPES = 600
@@ -10,18 +10,8 @@ MOST_TYPES = 600
 
 def is_type(value):
     """Whether any value is a type that can be handed in."""
-    size = 0
-    waiting = [(value, 0)]
-    while waiting:
-        own, height = waiting.pop()
-        size += 1
-        if size > MOST_SIZE or height > MOST_TYPE_HEIGHT or not isinstance(own, tuple):
-            return False
-        if len(own) == 3 and own[0] == "to":
-            waiting.extend([(part, height + 1) for part in own[1:]])
-        elif len(own) != 2 or own[0] != "open" or not is_between(own[1], 0, GREATEST_OPEN):
-            return False
-    return True
+    # One type alone is 0 high.
+    return is_type_within(value, MOST_SIZE, MOST_TYPE_HEIGHT + 1, GREATEST_OPEN)
 
 
 def are_types(value):

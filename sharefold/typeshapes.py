@@ -1,9 +1,26 @@
-"""Types of any size, without any checks but for what is too great."""
+"""What types are, within whatever bounds, and types of any size, checked for what is too great alone."""
 
 from sharefold.errors import TooMany
+from sharefold.integers import is_between
 
 MOST_SIZE = 300
 MOST_TYPE_HEIGHT = 60
+
+
+def is_type_within(value, most, levels, greatest):
+    """Whether any value is a type of at most so many types, so many in one another, with numbers to the greatest."""
+    many = 0
+    waiting = [(value, 1)]
+    while waiting:
+        own, level = waiting.pop()
+        many += 1
+        if many > most or level > levels or not isinstance(own, tuple):
+            return False
+        if len(own) == 3 and own[0] == "to":
+            waiting.extend([(part, level + 1) for part in own[1:]])
+        elif len(own) != 2 or own[0] != "open" or not is_between(own[1], 0, greatest):
+            return False
+    return True
 
 
 def measured_filled(own, measures):

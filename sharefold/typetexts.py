@@ -1,34 +1,18 @@
 """Texts of types, read and written."""
 
-from sharefold.integers import is_between
 from sharefold.namewords import MOST_NUMBER, word_of
 from sharefold.textchecks import check_measures, check_text, read_through
 from sharefold.texterrors import NotWritable
+from sharefold.typeshapes import is_type_within
 from sharefold.typesigns import TypeSigns
 
 MOST_TYPES = 600
 MOST_TYPE_HEIGHT = 60
 
 
-def is_writable(value):
-    """Whether any value is a type that has a text."""
-    types = 0
-    waiting = [(value, 1)]
-    while waiting:
-        own, height = waiting.pop()
-        types += 1
-        if types > MOST_TYPES or height > MOST_TYPE_HEIGHT or not isinstance(own, tuple):
-            return False
-        if len(own) == 3 and own[0] == "to":
-            waiting.extend([(part, height + 1) for part in own[1:]])
-        elif len(own) != 2 or own[0] != "open" or not is_between(own[1], 0, MOST_NUMBER):
-            return False
-    return True
-
-
 def write_type(value):
     """The text of a type."""
-    if not is_writable(value):
+    if not is_type_within(value, MOST_TYPES, MOST_TYPE_HEIGHT, MOST_NUMBER):
         raise NotWritable("not a type that has a text")
     return type_text(value)
 

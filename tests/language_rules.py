@@ -307,6 +307,7 @@ def all_wrong():
     all_files = [File(name) for name in files() if name.endswith(".py")]
     own = own_names(all_files)
     wrong = check_import_order(all_files)
+    wrong += ["L18 a method and an attribute: " + name for name in sorted(own["methods"] & own["attributes"])]
     for file in all_files:
         check_lines(file)
         check_module_level(file)

@@ -99,6 +99,18 @@ class CallsThroughTest(unittest.TestCase):
                 return
         self.fail("never shared")
 
+    def test_a_fun_with_a_lesser_number_than_the_call(self):
+        # The walk comes to the fun by its names' way, from a fan that the reading leaves by its other port.
+        wires = Wires()
+        fun = wires.fun(wires.letter("B"))
+        fan = wires.node("fan", 0, p1=wires.letter(), p2=(1, 2))
+        one, _ = wires.shared((fan, 0))
+        net = wires.net(wires.call(one, wires.call(fun, wires.letter("C"))))
+        edge = [edge for edge in live_edges(net) if edge_sort(net, edge) == "call"][0]
+        self.assertEqual([net[1][node][0] for node in edge], ["fun", "call"])
+        self.assertEqual(read_term(net), call(A, call(("fun", ("letter", "B")), ("letter", "C"))))
+        self.assertEqual(calls_through(net, edge), (2,))
+
     def test_each_is_a_redex(self):
         dice = random.Random(162)
         many = 0

@@ -155,6 +155,11 @@ class SameLevelTest(unittest.TestCase):
             self.assertIs(is_same_level(one, other), one == other)
             self.assertIs(is_same_level(one, one), True)
 
+    def test_pairs(self):
+        self.assertIs(is_same_level(("pair", ONE, TWO), ("pair", ONE, TWO)), True)
+        for other in [("pair", ONE, ONE), ("pair", TWO, TWO), ("pair", ONE, ()), ("pair", (), TWO), ONE, (), (1, PAIR)]:
+            self.assertIs(is_same_level(("pair", ONE, TWO), other), False)
+
     def test_deep_levels(self):
         self.assertIs(is_same_level(marks(20000), marks(20000)), True)
         self.assertIs(is_same_level(marks(20000, TWO), marks(20001)), False)

@@ -47,6 +47,8 @@ class LiveEdgesTest(unittest.TestCase):
         self.assertIsNone(self.sorts_of("call", 4, "fun", 3))
         self.assertIsNone(self.sorts_of("call", 3, "call", 3))
         self.assertIsNone(self.sorts_of("call", 3, "call", 2))
+        self.assertIsNone(self.sorts_of("fun", 3, "fun", 3))
+        self.assertIsNone(self.sorts_of("fun", 3, "fun", 2))
 
     def test_alike(self):
         for kind in SHARING:

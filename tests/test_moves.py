@@ -64,6 +64,9 @@ class MovedTest(unittest.TestCase):
         self.assertEqual(moved(net, (0, 0), ()), ("on", ROOT, ()))
         self.assertEqual(walked(net, (0, 1), (ONE,)), ("stuck", (), ((), ONE), 1))
         self.assertEqual(walked(net, (0, 0), ((), ONE)), ("stuck", ROOT, (ONE,), 1))
+        wires = Wires()
+        net = wires.net(wires.opens(wires.letter(), 2))
+        self.assertEqual(walked(net, (1, 0), ()), ("stuck", ROOT, (), 2))
 
     def test_contexts_that_come_may_be_greater(self):
         net, node = sharing("open", 0)

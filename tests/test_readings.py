@@ -115,6 +115,15 @@ class StuckTest(unittest.TestCase):
                     function(net)
                 self.assertEqual(caught.exception.end, (1, port))
 
+    def test_a_way_back_to_the_port_for_the_body(self):
+        # The function's mark is taken off by a fan, which leads back to itself, and then to the function.
+        wires = Wires()
+        fun = wires.node("fun", 0)
+        fan = wires.node("fan", 0, p0=(fun, 1))
+        wires.join((fan, 1), (fan, 2))
+        net = wires.net(wires.shared((fun, 0))[0])
+        self.assertEqual(stuck_at(net), (1, 1))
+
     def test_levels(self):
         for kind, inner in [("open", "fan"), ("box", "fan"), ("fan", "open")]:
             wires = Wires()

@@ -28,6 +28,21 @@ def doubling(many):
     return call(*[I] * many)
 
 
+def matched(general, types):
+    """What the open ones of types stand for so that others come of them; None if they stand for several."""
+    known, waiting = {}, list(zip(general, types))
+    while waiting:
+        one, other = waiting.pop()
+        if one[0] == "open":
+            if known.setdefault(one[1], other) != other:
+                return None
+        elif other[0] == "open":
+            return None
+        else:
+            waiting += [(one[1], other[1]), (one[2], other[2])]
+    return known
+
+
 class TypesTest(unittest.TestCase):
 
     def test_most_general(self):
@@ -97,6 +112,10 @@ class FitsTest(unittest.TestCase):
                     other = types[:at] + (own,) + types[at + 1:]
                     self.assertIs(fits_typing(term, other), fits(term, other))
                     tried += fits(term, other)
+                    if fits(term, other):
+                        known = matched(types_of(term)[1], other)
+                        self.assertEqual(sorted(known), list(range(len(known))))
+                        self.assertEqual(filled(types_of(term)[1], tuple([known[n] for n in range(len(known))])), other)
                 self.assertIs(fits_typing(term, types[:at] + (list(types[at]),) + types[at + 1:]), False)
         self.assertGreater(tried, 50)
 
