@@ -18,9 +18,9 @@ def check_run_form(value):
 
 
 class Running:
-    """A run of a term: its net at the end, the sort of each of its edges, and what was developed.
+    """A run of a term: the net at its end, its edges, and the sort of each of them.
 
-    Of edges of a call and a fun the net ahead is kept, for the sake of lots.
+    Of edges of a call and a fun the net ahead is kept, too, for the sake of lots.
     """
 
     def __init__(self, term):

@@ -8,7 +8,7 @@ from sharefold.foldfamilies import agreement, shows_agreement
 from sharefold.folds import begun, families_of, family_at
 from sharefold.steps import leftmost
 from tests.fold_oracle import slow_steps
-from tests.samples import A, B, HIGH, I, ODD_VALUES, T, W, WIDE, call, full, limit_of, random_terms
+from tests.samples import A, B, HIGH, I, ODD_VALUES, T, W, WIDE, call, full, funs, limit_of, random_terms
 from tests.test_netruns import BIG, DEEP, LOOP
 
 # It takes 64 leftmost family steps to come to its normal form.
@@ -104,18 +104,19 @@ class TooGreatTest(unittest.TestCase):
             self.assertIs(shows_agreement(later, value + ((1, (1,), A),)), False)
 
     def test_words(self):
-        # Each step makes the words of this one longer.
-        for term in [call(W, W), call(call(W, W), A)]:
-            rows = agreement(term, 60) if limit_of(agreement, term, 60) is None else ()
-            fold, many = begun(term), 0
-            while many < 60:
-                try:
-                    fold = family_step(fold, family_at(fold, leftmost(fold[0])))
-                except TooMany as error:
-                    self.assertEqual(limit_of(agreement, term, many + 1), error.limit)
-                    break
-                many += 1
-            self.assertEqual(len(rows), 60 if many == 60 else 0)
+        # The terms stay small, but words become longer from step to step.
+        x = ("name", 0)
+        inner = call(funs(1, call(funs(1, ("name", 1)), call(("name", 1), ("name", 1)))), call(x, x))
+        term = call(W, funs(1, inner))
+        fold, many = begun(term), 0
+        while limit_of(family_step, fold, family_at(fold, leftmost(fold[0]))) is None:
+            fold = family_step(fold, family_at(fold, leftmost(fold[0])))
+            many += 1
+        self.assertEqual(len(agreement(term, many)), many)
+        self.assertEqual([limit_of(agreement, term, most) for most in (many + 1, 60)], [400, 400])
+        value = agreement(term, many)
+        self.assertIs(shows_agreement(term, value), True)
+        self.assertIs(shows_agreement(term, value + ((leftmost(fold[0]), (leftmost(fold[0]),), term),)), False)
 
     def test_nets_are_not_asked_for(self):
         for term in [BIG, DEEP]:
