@@ -15,6 +15,8 @@ def is_lot(term, value):
 
 def left_of(term, node, lot):
     """What is left of a lot behind the step at a redex, which is not too great."""
+    if not lot:
+        return ()
     kept = {own: True for own in lot}
     return tuple([place for place, (origin, _) in enumerate(copies_of(term, node)) if origin in kept])
 

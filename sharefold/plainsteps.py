@@ -3,7 +3,7 @@
 from sharefold.errors import TooMany
 from sharefold.integers import is_integer
 from sharefold.termshapes import MOST_HEIGHT, MOST_NODES, aboves_of, is_redex_part
-from sharefold.termshapes import measured_height, owners_of, parts_of, sizes_of
+from sharefold.termshapes import measured_height, own_names, parts_of, sizes_of
 
 
 def is_redex(term, value):
@@ -17,7 +17,7 @@ def stepped(term, node):
     parts = parts_of(term)
     sizes = sizes_of(parts)
     function, argument = parts[node][1:]
-    copies = owners_of(function).count(0)
+    copies = len(own_names(function))
     # The call and the fun go, and each name makes room for a copy of the argument.
     gone = 2 + sizes[node + 2 + sizes[node + 2]]
     size = len(parts) - gone + copies * (gone - 3)
@@ -79,14 +79,15 @@ def copies_of(term, node):
     """
     parts = parts_of(term)
     sizes = sizes_of(parts)
-    owners = owners_of(term)
     argument = node + 2 + sizes[node + 2]
     end = node + sizes[node]
     copies = [(outer, None) for outer in range(node)]
-    for own in range(node + 2, argument):
-        if owners[own] == node + 1:
-            copies.append((argument, own))
-            copies.extend([(inner, None) for inner in range(argument + 1, end)])
-        else:
-            copies.append((own, None))
+    begin = node + 2
+    for name in own_names(parts[node + 1]):
+        own = node + 1 + name
+        copies.extend([(inner, None) for inner in range(begin, own)])
+        copies.append((argument, own))
+        copies.extend([(inner, None) for inner in range(argument + 1, end)])
+        begin = own + 1
+    copies.extend([(inner, None) for inner in range(begin, argument)])
     return copies + [(outer, None) for outer in range(end, len(parts))]

@@ -70,6 +70,23 @@ def owner_of(part, around):
     return None
 
 
+def own_names(function):
+    """The ascending list of the nodes of a function's own names, counted from its own node on."""
+    names = []
+    node = 0
+    waiting = [(function[1], 0)]
+    while waiting:
+        part, inner = waiting.pop()
+        node += 1
+        if part[0] == "fun":
+            waiting.append((part[1], inner + 1))
+        elif part[0] == "call":
+            waiting.extend([(part[2], inner), (part[1], inner)])
+        elif part == ("name", inner):
+            names.append(node)
+    return names
+
+
 def measured_height(term):
     height = 0
     row = [term]

@@ -102,6 +102,10 @@ class TypeOrder:
         """Whether all classes have a type."""
         return all([own in self.settled for own in self.arrow_at])
 
+    def is_open(self, node):
+        """Whether the type at a node is open."""
+        return self.classes.head(node) not in self.arrow_at
+
     def ring(self):
         """A ring, where not all classes have a type."""
         own = [own for own in self.arrow_at if own not in self.settled][0]
@@ -128,7 +132,7 @@ class TypeOrder:
 
     def types(self):
         """The tuple of the types of all nodes, plain."""
-        numbers = self._numbers()
+        numbers = self.open_numbers()
         types = {}
         for own in self.order:
             if own in self.arrow_at:
@@ -138,7 +142,7 @@ class TypeOrder:
                 types[own] = ("open", numbers.get(own))
         return tuple([types[self.classes.head(node)] for node in range(self.classes.many)])
 
-    def _numbers(self):
+    def open_numbers(self):
         """The numbers of the open classes, as they come first in the types of the nodes."""
         numbers = {}
         seen = {}

@@ -1,6 +1,6 @@
 """The types of the nodes of terms, and papers that there are none."""
 
-from sharefold.errors import TooMany
+from sharefold.errors import InvalidTyping, NoTypes, TooMany
 from sharefold.integers import is_between, is_integer
 from sharefold.samevalues import is_same
 from sharefold.terms import check_term
@@ -37,6 +37,20 @@ def order_of(term):
     classes = TypeClasses(term)
     classes.join_all()
     return TypeOrder(classes)
+
+
+def whole_order(term):
+    """The classes of what is a term behind all joins, in their order, if there is a typing."""
+    order = order_of(term)
+    if not order.is_whole():
+        raise NoTypes("the term has no types")
+    return order
+
+
+def check_typing(term, value):
+    """Refuse what is no term, then what is no typing of it."""
+    if not fits_typing(term, value):
+        raise InvalidTyping("not types of the term")
 
 
 def types_of(term):

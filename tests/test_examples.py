@@ -200,6 +200,31 @@ EXAMPLES = r'''
 >>> [types_of(I) == ("types", (("to", GA, GA), GA)), types_of(W)[0], has_types(W), takes_types(W, ("clash", (), ((1, 0),))), takes_types(W, ("clash", (), ((1, 1),))), fits_typing(I, (("to", I, I), I))]
 [True, 'clash', False, True, False, False]
 
+[74]
+
+>>> from sharefold.instances import *
+>>> [fillings_of(I, (("to", GB, GB), GB)) == (GB,), open_count(I), open_count(("call", ("letter", "A"), ("letter", "A")))]
+[True, 1, 2]
+
+[75]
+
+>>> from sharefold.typedsteps import *
+>>> types_behind(("call", I, I), types_of(("call", I, I))[1], 0) == (("to", GA, GA), GA)
+True
+
+[76]
+
+>>> from sharefold.degrees import *
+>>> GT = ("call", ("call", I, I), ("call", I, ("letter", "A")))
+>>> [degree_counts(GT), degree_redex(GT), degree_way(GT, 9), degree_of(GT, 1), open_count(GT)]
+[((1, 1), (2, 1)), 1, ((1, 3, 0), (2, 1, 1), ('letter', 'A')), 2, 1]
+
+[77]
+
+>>> from sharefold.fragments import *
+>>> [fun_count(GT), is_affine(GT), is_linear(W), is_flat(W), is_flat(GT), affine_lengths(GT)]
+[3, True, False, False, True, (3, 3, ('letter', 'A'))]
+
 [78]
 
 >>> from sharefold.residuals import *
@@ -213,6 +238,32 @@ EXAMPLES = r'''
 >>> from sharefold.developments import *
 >>> [development(HT, (0, 5)), developed(HT, (0, 5)), is_development(HT, (0, 5), (0, 1, 2)), is_development(HT, (0, 5), (0, 1)), full_way(HT)]
 [(5, 0), ('call', ('letter', 'A'), ('letter', 'A')), True, False, (5, 0)]
+
+[80]
+
+>>> from sharefold.meets import *
+>>> [way_behind(HT, (0,), (5,)), meeting(HT, (0,), (5,)), takes_meeting(HT, (0,), (5,), ((1, 2), (0,))), takes_meeting(HT, (0,), (5,), ((5,), (0,)))]
+[((0,), (1, 5)), ((5, 1), (0,)), True, False]
+
+[81]
+
+>>> from sharefold.standards import *
+>>> [first_unsorted(HT, (5, 0)), is_standard(HT, (0, 1, 2)), is_standard(HT, (0, 5, 1)), first_done(HT, (5, 0)), standard_way(HT, (5, 0))]
+[(0, 1, 0), True, False, 0, (0, 1, 2)]
+
+[82]
+
+>>> from sharefold.overtakes import *
+>>> [len(full_steps(HT, 2)), full_steps(HT, 2)[2] == full_steps(HT, 1)[1], takes_overtaking(HT, (0,), overtaking(HT, (0,))), takes_overtaking(HT, (0,), (1,))]
+[3, True, True, False]
+
+[83]
+
+>>> from sharefold.programs import *
+>>> IN, IF = ("make", "N", ()), ("fun", "a", ("case", ("word", "a"), ((("make", "S", (("word", "b"),)), ("word", "b")), (("any",), ("make", "N", ())))))
+>>> IP = ("call", IF, ("make", "S", (IN,)))
+>>> [is_program(IP), is_program(("word", "a")), program_kinds(IP)]
+[True, False, (('N', 0), ('S', 1))]
 '''
 
 

@@ -7,6 +7,7 @@ import os
 import unittest
 
 from sharefold.errors import ShareError
+from tests.program_samples import IP, N
 from tests.samples import A, B, I, ODD_VALUES, T, call
 
 # Each function of the interface with its parameters, module by module.
@@ -42,8 +43,16 @@ INTERFACE = {
     "foldfamilies": "agreement(term,most) shows_agreement(term,value)",
     "types": "is_type(value) type_height(own) opens_of(own) plain_types(types) filled(types,fillings)",
     "typings": "fits_typing(term,value) has_types(term) types_of(term) takes_types(term,value)",
+    "instances": "fillings_of(term,types) open_count(term)",
+    "typedsteps": "types_behind(term,types,node)",
+    "degrees": "degree_of(term,node) degree_counts(term) degree_redex(term) degree_way(term,most)",
+    "fragments": "fun_count(term) is_affine(term) is_linear(term) is_flat(term) affine_lengths(term)",
     "residuals": "left_behind(term,node,lot) left_along(term,way,lot)",
     "developments": "development(term,lot) developed(term,lot) is_development(term,lot,value) full_way(term)",
+    "meets": "way_behind(term,way,lot) meeting(term,one,other) takes_meeting(term,one,other,value)",
+    "standards": "first_unsorted(term,way) is_standard(term,way) first_done(term,way) standard_way(term,way)",
+    "overtakes": "full_steps(term,many) overtaking(term,way) takes_overtaking(term,way,value)",
+    "programs": "is_program(value) program_kinds(program)",
 }
 
 
@@ -79,7 +88,7 @@ class InterfaceTest(unittest.TestCase):
 
     def test_any_values_meet_errors_of_this_package_alone(self):
         values = ODD_VALUES + [T, I, B, "A B", "\\x.x", "[1,2]", "A\n", (0, 5), 3, FOLD, FOLD[2], NET, CALLED,
-                               (0, 1), ((), (1, ())), ((0, 1),), TYPE, (TYPE,), ("types", (TYPE,))]
+                               (0, 1), ((), (1, ())), ((0, 1),), TYPE, (TYPE,), ("types", (TYPE,)), IP, N]
         for module, name, parameters in functions():
             function = function_named(module, name)
             for value in values:
@@ -96,7 +105,8 @@ class InterfaceTest(unittest.TestCase):
                    "row": (1, 2), "book": FOLD[2], "marks": (0, 1), "fold": FOLD, "family": 1, "index": 0,
                    "other": FOLD[2], "raw": NET, "net": CALLED, "edge": (0, 1), "context": ((), (1, ())), "mark": 2,
                    "end": (2, 1), "run": ((0, 1),), "numbers": (3, 10 ** 6),
-                   "lot": (0, 3), "own": TYPE, "types": (TYPE, TYPE[2]), "fillings": (TYPE, ("open", 5))}
+                   "lot": (0, 3), "own": TYPE, "types": (TYPE, TYPE[2]), "fillings": (TYPE, ("open", 5)),
+                   "one": (3,), "many": 3, "program": IP}
         for module, name, parameters in functions():
             if not set(parameters) <= set(samples):
                 continue
