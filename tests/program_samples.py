@@ -47,6 +47,18 @@ def plus(one, other):
     return ("let", "p", PLUS, calls(word("p"), number(one), number(other)))
 
 
+def great_number(many, body):
+    """A body in which the word n stands for a number, at least 1, which is doubled up to it."""
+    names = ["n" + str(at) for at in range(many.bit_length() - 1)][::-1] + ["n"]
+    rows = [make("S", N)]
+    for at, bit in enumerate(bin(many)[3:]):
+        double = calls(word("p"), word(names[at]), word(names[at]))
+        rows.append(make("S", double) if bit == "1" else double)
+    for name, own in list(zip(names, rows))[::-1]:
+        body = ("let", name, own, body)
+    return ("let", "p", PLUS, body)
+
+
 # How many parts those have that random programs are made of.
 KINDS = {"N": 0, "M": 0, "S": 1, "P": 2}
 

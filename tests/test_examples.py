@@ -264,6 +264,56 @@ True
 >>> IP = ("call", IF, ("make", "S", (IN,)))
 >>> [is_program(IP), is_program(("word", "a")), program_kinds(IP)]
 [True, False, (('N', 0), ('S', 1))]
+
+[84]
+
+>>> from sharefold.casetrees import *
+>>> IT = (("make", "S", (("make", "N", ()),)), ("make", "S", (("word", "b"),)))
+>>> tree_of(IT)
+('test', 0, 'S', (1,), ('test', 1, 'N', (), ('leaf', 0, ()), ('leaf', 1, (('b', 1),))), ('none',))
+>>> [row_by_rows(IT, ("make", "S", (IN,))), row_by_tree(IT, IN), parts_tested(IT, ("make", "S", (IN,)))]
+[(0, ()), None, (0, 1)]
+
+[85]
+
+>>> from sharefold.cores import *
+>>> core_of(IP)
+('let', 0, ('let', 1, ('make', 'N', ()), ('make', 'S', (1,))), ('call', ('fun', 2, ('test', 2, 'S', (3,), ('word', 3), ('make', 'N', ()))), 0))
+
+[86]
+
+>>> from sharefold.needruns import *
+>>> run = NeedRun(IP, 1)
+>>> [run.step(0), run.hand_states(), run.rounds(99), run.state(), run.answer(), run.counts(), run.cell_states()]
+[True, (('work', 0),), 10, 'over', ('make', 'N', ()), (11, 2, 2, 1), ('value', 'value')]
+
+[87]
+
+>>> from sharefold.needways import *
+>>> [answer_by_rounds(IP, 2)[:2], takes_answer(IP, 1, answer_paper(IP)), answer_paper(("let", "x", ("word", "x"), ("word", "x")))]
+[('over', ('make', 'N', ())), True, None]
+
+[89]
+
+>>> from sharefold.bridges import *
+>>> [term_of(IN), told_by(IN, term_of(IN)), answer_by_term(IP, 50)]
+[('fun', ('name', 0)), ('make', 'N', ()), ('make', 'N', ())]
+
+[90]
+
+>>> from sharefold.comparisons import *
+>>> JI, JW = ("fun", ("name", 0)), ("fun", ("call", ("name", 0), ("name", 0)))
+>>> JT, JB = ("call", JW, ("call", JI, ("letter", "A"))), ("call", ("letter", "A"), ("letter", "A"))
+>>> [len(reached_within(JT, 1)), len(reached_within(JT, 3)), way_within(JT, JB, 2), way_within(JT, JB, 1), way_within(JT, JI, 6)]
+[3, 6, (5, 0), None, None]
+>>> [compared(JT, JB, 9)[0], compared(JT, JI, 9)[0], compared(("call", JW, JW), JI, 9), takes_compared(JT, JB, ("one", (5, 0), ())), takes_compared(JT, JB, ("unlike", (), ()))]
+['one', 'unlike', ('open',), True, False]
+
+[91]
+
+>>> from sharefold.runreports import *
+>>> [run_report(JT, ())[2] == JT, run_report(JT, (0,) * 60)[2], takes_report(JT, ((), (), JT)), takes_report(JT, ((), (0,), JT)), counts_to_normal(JT, 9), counts_to_normal(JT, 1)]
+[True, ('call', ('letter', 'A'), ('letter', 'A')), True, False, (2, 2, 3), None]
 '''
 
 
@@ -274,7 +324,7 @@ class ExamplesTest(unittest.TestCase):
         said = []
         results = doctest.DocTestRunner(verbose=False).run(test, out=said.append)
         self.assertEqual(results.failed, 0, "".join(said))
-        self.assertGreaterEqual(results.attempted, 80)
+        self.assertGreaterEqual(results.attempted, 120)
 
 
 if __name__ == "__main__":

@@ -53,6 +53,21 @@ INTERFACE = {
     "standards": "first_unsorted(term,way) is_standard(term,way) first_done(term,way) standard_way(term,way)",
     "overtakes": "full_steps(term,many) overtaking(term,way) takes_overtaking(term,way,value)",
     "programs": "is_program(value) program_kinds(program)",
+    "casetrees": "tree_of(patterns) row_by_rows(patterns,value) row_by_tree(patterns,value) parts_tested(patterns,value)",
+    "cores": "core_of(program)",
+    "needways": "run_by(program,hands,schedule) answer_by_rounds(program,hands) answer_paper(program) "
+                "takes_answer(program,hands,value)",
+    "plainneed": "plain_answer(program,most)",
+    "bridges": "term_of(program) told_by(program,term) answer_by_term(program,most)",
+    "comparisons": "reached_within(term,most) way_within(term,other,most) compared(term,other,most) "
+                   "takes_compared(term,other,value)",
+    "runreports": "run_report(term,numbers) takes_report(term,value) counts_to_normal(term,most)",
+}
+
+# Each class of the interface with its methods.
+CLASSES = {
+    ("needruns", "NeedRun"): "__init__(self,program,hands) has_step(self,hand) step(self,hand) rounds(self,most) state(self) "
+                             "answer(self) counts(self) cell_states(self) hand_states(self) reached(self)",
 }
 
 
@@ -86,6 +101,17 @@ class InterfaceTest(unittest.TestCase):
             self.assertEqual(len(found), 1, name)
             self.assertEqual(list(inspect.signature(function_named(module, name)).parameters), parameters, name)
 
+    def test_methods_are_defined_in_their_classes(self):
+        for (module, name), rows in CLASSES.items():
+            path = os.path.abspath(importlib.import_module("sharefold." + module).__file__)
+            with open(path, encoding="utf-8") as stream:
+                found = [row for row in ast.parse(stream.read()).body if isinstance(row, ast.ClassDef) and row.name == name]
+            self.assertEqual(len(found), 1)
+            methods = {row.name: [own.arg for own in row.args.args] for row in found[0].body if isinstance(row, ast.FunctionDef)}
+            for row in rows.split():
+                method, parameters = row[:-1].split("(")
+                self.assertEqual(methods.get(method), parameters.split(","), method)
+
     def test_any_values_meet_errors_of_this_package_alone(self):
         values = ODD_VALUES + [T, I, B, "A B", "\\x.x", "[1,2]", "A\n", (0, 5), 3, FOLD, FOLD[2], NET, CALLED,
                                (0, 1), ((), (1, ())), ((0, 1),), TYPE, (TYPE,), ("types", (TYPE,)), IP, N]
@@ -106,14 +132,16 @@ class InterfaceTest(unittest.TestCase):
                    "other": FOLD[2], "raw": NET, "net": CALLED, "edge": (0, 1), "context": ((), (1, ())), "mark": 2,
                    "end": (2, 1), "run": ((0, 1),), "numbers": (3, 10 ** 6),
                    "lot": (0, 3), "own": TYPE, "types": (TYPE, TYPE[2]), "fillings": (TYPE, ("open", 5)),
-                   "one": (3,), "many": 3, "program": IP}
+                   "one": (3,), "many": 3, "program": IP, "patterns": (N, ("word", "x")), "hands": 2,
+                   "schedule": (0, 1, 0)}
         for module, name, parameters in functions():
             if not set(parameters) <= set(samples):
                 continue
             results = []
             for _ in range(2):
                 try:
-                    results.append(function_named(module, name)(*[samples[own] for own in parameters]))
+                    result = function_named(module, name)(*[samples[own] for own in parameters])
+                    results.append((result.counts(), result.hand_states()) if name == "run_by" and module == "needways" else result)
                 except ShareError as error:
                     results.append((type(error), vars(error)))
             self.assertEqual(*results)

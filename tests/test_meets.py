@@ -19,6 +19,8 @@ from tests.way_oracle import random_way, slow_meeting, slow_tail, told_or_limit
 KNOT = call(W, W)
 TWO_KNOTS = call(W, KNOT)
 THREE = funs(1, call(("name", 0), ("name", 0), ("name", 0)))
+# It grows with each step.
+GROWING = call(THREE, THREE)
 
 
 class WayBehindTest(unittest.TestCase):
@@ -82,10 +84,9 @@ class WayBehindTest(unittest.TestCase):
 
     def test_which_limit_comes_first(self):
         # The argument grows with each step: 300 copies of it come to be too great, or are too many, in turn.
-        grow = call(THREE, THREE)
         seen = []
         for many in [1, 2, 10, 20, 30, 40]:
-            term = call(funs(1, full(many, ("name", 0))), grow)
+            term = call(funs(1, full(many, ("name", 0))), GROWING)
             inner = redexes(term)[1]
             for steps in [1, 5, 11, 21, 40]:
                 way = (inner,) + tuple(range(inner + 1, inner + steps))
