@@ -204,6 +204,7 @@ class WrongArgumentsTest(unittest.TestCase):
                 for function in [way_within, compared, takes_compared]:
                     self.assertRaises(InvalidTerm, function, value, value, None)
                     self.assertRaises(InvalidTerm, function, A, value, None)
+                    self.assertRaises(InvalidTerm, function, value, A, 0)
         for value in [None, True, False, -1, 7, 10 ** 100, "0", (0,), [0]]:
             self.assertRaises(InvalidNumber, reached_within, full(9, chain(1)), value)
             self.assertRaises(InvalidNumber, way_within, full(9, chain(1)), A, value)

@@ -82,6 +82,22 @@ class WayBehindTest(unittest.TestCase):
         inner = redexes(term)[1]
         self.assertEqual(limit_of(way_behind, term, (inner,), (0,)), 60)
 
+    def test_too_many_ahead_of_what_is_too_great(self):
+        # A step of the argument makes it too great to be doubled behind that; others are doubled ahead of it.
+        big = call(funs(1, full(3, ("name", 0))), full(60))
+        term = call(W, call(A, KNOT, big))
+        _, knot, last = redexes(term)
+        for many, limit in [(98, 600), (99, 600), (100, 200), (101, 200)]:
+            way = (knot,) * many + (last, knot)
+            self.assertEqual(limit_of(walk, term, way), None)
+            self.assertEqual(limit_of(way_behind, term, way, (0,)), limit)
+            self.assertEqual(limit_of(slow_tail, term, way, (0,)), limit)
+            self.assertEqual(limit_of(meeting, term, way, (0,)), limit)
+        for many in [98, 100]:
+            # The other way round what is left of each step is noted, in turn.
+            way = (knot,) * many + (last, knot)
+            self.assertEqual(limit_of(meeting, term, (0,), way), limit_of(slow_meeting, term, (0,), way))
+
     def test_which_limit_comes_first(self):
         # The argument grows with each step: 300 copies of it come to be too great, or are too many, in turn.
         seen = []
