@@ -24,7 +24,8 @@ class Settled:
 
     def as_other(self, part, kind):
         """What is settled where a part is not of a kind."""
-        return Settled(self.makes, {**self.others, (part, kind): True}, self.many)
+        others = {**self.others, part: (*self.others.get(part, ()), kind)}
+        return Settled(self.makes, others, self.many)
 
 
 def gone_through(pattern, settled):
@@ -41,7 +42,7 @@ def gone_through(pattern, settled):
             pairs.append((own[1], part))
         elif own[0] == "make":
             kind, numbers = settled.makes.get(part, (None, ()))
-            if kind is None and (part, own[1]) not in settled.others:
+            if kind is None and own[1] not in settled.others.get(part, ()):
                 return "test", part, own[1], len(own[2])
             if kind != own[1]:
                 return ("lost",)
